@@ -1,0 +1,1 @@
+"""Things sold to bidders; the functions are in bidsets.selling."""
