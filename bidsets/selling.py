@@ -12,6 +12,14 @@ def best(n, m, v):
     return [0, best_worth(n, m, v)]
 
 
+def pay(n, m, v):
+    """0 and what all pay together with a best way; or -2 or -3 alone."""
+    code = refusal_or_zero(n, m, v)
+    if code != 0:
+        return [code]
+    return [0, paid_by_all(n, m, v)]
+
+
 def refusal_or_zero(n, m, v):
     """The refusal that's due first, or 0 if none is."""
     # Sizes are looked at first: where they don't fit, v is empty and 2 to the power m may be huge.
@@ -70,3 +78,19 @@ def best_split(worths, bids, offered):
         if (offered & part) == part:
             most = max(most, worths[offered - part] + bids[part])
     return most
+
+
+def paid_by_all(n, m, v):
+    """What all pay together with a best way, where nothing is refused."""
+    without_each = sum([best_worth(n, m, without_bids_of(bidder, m, v)) for bidder in range(n)])
+    # What the others give, over all bidders, counts each gift of the way n - 1 times;
+    # so it hangs on the way's worth alone, and no best way has to be found.
+    given_by_others = (n - 1) * best_worth(n, m, v)
+    return without_each - given_by_others
+
+
+def without_bids_of(bidder, m, v):
+    """A copy of v in which the bidder gives nothing for every set."""
+    sets = count_sets(m)
+    start = bidder * sets
+    return v[:start] + [0 for bid in range(sets)] + v[start + sets:]

@@ -6,52 +6,7 @@ import itertools
 import unittest
 
 from bidsets.selling import best
-
-MOST = 4294967295
-LOWEST = -2147483648
-HIGHEST = 2147483647
-
-
-class FixedList(list):
-    """A list that can't be changed, not for a while either."""
-
-    def refuse(self, *args, **kwargs):
-        raise AssertionError("what is handed in was changed")
-
-    append = clear = extend = insert = pop = remove = reverse = sort = refuse
-    __setitem__ = __delitem__ = __iadd__ = __imul__ = refuse
-
-
-def worth_by_trying_all(n, m, v):
-    """Each thing goes to a bidder or to none (n stands for none); the most of all these ways."""
-    most = 0
-    for owners in itertools.product(range(n + 1), repeat=m):
-        worth = 0
-        for bidder in range(n):
-            held = sum(2 ** thing for thing in range(m) if owners[thing] == bidder)
-            worth += v[bidder * 2 ** m + held]
-        most = max(most, worth)
-    return most
-
-
-def with_empty_sets(n, m, values):
-    """v with 0 for each bidder's set without things and the values for all other sets."""
-    left = list(values)
-    per_bidder = 2 ** m - 1
-    v = []
-    for bidder in range(n):
-        v += [0] + left[bidder * per_bidder:(bidder + 1) * per_bidder]
-    return v
-
-
-def numbers_from(seed, how_many, below):
-    """The same numbers on each run and each Python."""
-    numbers = []
-    state = seed
-    for step in range(how_many):
-        state = (state * 6364136223846793005 + 1442695040888963407) % 2 ** 64
-        numbers.append((state >> 20) % below)
-    return numbers
+from tests.ways import HIGHEST, LOWEST, MOST, FixedList, numbers_from, with_empty_sets, worth_by_trying_all
 
 
 class OrdinaryWays(unittest.TestCase):

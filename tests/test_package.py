@@ -29,6 +29,10 @@ class Interface(unittest.TestCase):
         self.assertEqual(list(inspect.signature(selling.best).parameters), ["n", "m", "v"])
         self.assertEqual(selling.best(n=1, m=1, v=[0, 3]), [0, 3])
 
+    def test_pay_takes_n_m_v(self):
+        self.assertEqual(list(inspect.signature(selling.pay).parameters), ["n", "m", "v"])
+        self.assertEqual(selling.pay(n=2, m=1, v=[0, 3, 0, 2]), [0, 2])
+
 
 class Files(unittest.TestCase):
     def test_only_modules_lie_in_the_package(self):
