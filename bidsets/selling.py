@@ -1,7 +1,9 @@
-"""Things sold to bidders who say what they give for each set of things."""
+"""Things sold to bidders who say what they give for sets of things, or for things alone."""
 
 MOST_BIDDERS = 8
 MOST_THINGS = 6
+# Where everyone wants one thing alone, there may be as many bidders and as many things.
+MOST_ALONE = 16
 
 
 def best(n, m, v):
@@ -20,19 +22,26 @@ def pay(n, m, v):
     return [0, paid_by_all(n, m, v)]
 
 
+def prices(n, m, v):
+    """0 and the least prices of m things, where everyone wants one alone; or -2 alone."""
+    if not sizes_fit(n, m, MOST_ALONE, MOST_ALONE):
+        return [-2]
+    return [0] + least_prices(n, m, v)
+
+
 def refusal_or_zero(n, m, v):
     """The refusal that's due first, or 0 if none is."""
     # Sizes are looked at first: where they don't fit, v is empty and 2 to the power m may be huge.
-    if not sizes_fit(n, m):
+    if not sizes_fit(n, m, MOST_BIDDERS, MOST_THINGS):
         return -2
     if some_give_for_no_things(n, m, v):
         return -3
     return 0
 
 
-def sizes_fit(n, m):
-    """Whether n bidders and m things are within the ranges."""
-    return 1 <= n and n <= MOST_BIDDERS and 1 <= m and m <= MOST_THINGS
+def sizes_fit(n, m, most_bidders, most_things):
+    """Whether there is a bidder and a thing, and no more of them than these."""
+    return 1 <= n and n <= most_bidders and 1 <= m and m <= most_things
 
 
 def some_give_for_no_things(n, m, v):
@@ -94,3 +103,70 @@ def without_bids_of(bidder, m, v):
     sets = count_sets(m)
     start = bidder * sets
     return v[:start] + [0 for bid in range(sets)] + v[start + sets:]
+
+
+def least_prices(n, m, v):
+    """The least prices, where nothing is refused."""
+    # With a spare thing for each bidder, for which everyone gives 0, having nothing is having
+    # a spare one; so everybody has a thing, and none that they'd rather not have.
+    bids = [v[bidder * m:bidder * m + m] + [0 for spare in range(n)] for bidder in range(n)]
+    holders = best_holders(bids, m + n)
+    # Prices at which all is well for some having are so for each best having: any will do.
+    # No price is below 0, and holders who'd gain by another thing put up its price, no further.
+    chains = best_chains(bids, holders, [0 for thing in holders])
+    return chains[0][:m]
+
+
+def best_holders(bids, things):
+    """Who holds each thing, None if nobody, with a thing for every bidder and all worth most."""
+    holders = [None for thing in range(things)]
+    for newcomer in range(len(bids)):
+        holders = with_newcomer(bids, holders, newcomer)
+    return holders
+
+
+def with_newcomer(bids, holders, newcomer):
+    """The best holders once the newcomer has come too, from the best ones before."""
+    chains = best_chains(bids, holders, bids[newcomer])
+    gains = chains[0]
+    left = chains[1]
+    moved = list(holders)
+    thing = best_unheld(holders, gains)
+    # The chain is walked from its end: each thing on it goes to who held the one before.
+    while left[thing] is not None:
+        moved[thing] = holders[left[thing]]
+        thing = left[thing]
+    moved[thing] = newcomer
+    return moved
+
+
+def best_unheld(holders, gains):
+    """The thing that's gained most by, of those that nobody holds."""
+    unheld = [thing for thing in range(len(holders)) if holders[thing] is None]
+    return max(unheld, key=lambda thing: gains[thing])
+
+
+def best_chains(bids, holders, starts):
+    """For each thing, the most that a chain of moves up to it gains, and the thing left for it.
+
+    A chain begins at any thing, with what starts has for it, and None is left for that.
+    Who holds the thing a chain has come to may leave it for another, and so on; that gains
+    what they give for the other, less what they give for the one they leave.
+    """
+    gains = list(starts)
+    left = [None for thing in starts]
+    # Holders are best, so moves in a circle gain nothing: a best chain moves each bidder once at most.
+    for step in range(len(bids)):
+        for thing in range(len(holders)):
+            if holders[thing] is not None:
+                move_on(bids[holders[thing]], thing, gains, left)
+    return (gains, left)
+
+
+def move_on(wishes, thing, gains, left):
+    """Let who has these wishes leave the thing for each other one, where a better chain comes of it."""
+    for other in range(len(wishes)):
+        gain = gains[thing] - wishes[thing] + wishes[other]
+        if gain > gains[other]:
+            gains[other] = gain
+            left[other] = thing

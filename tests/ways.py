@@ -1,4 +1,4 @@
-"""What the tests of best and of pay share: inputs, and answers by trying all ways."""
+"""What the tests share: inputs, and answers by trying all ways, or all prices and havings."""
 
 import itertools
 
@@ -47,6 +47,55 @@ def payments_by_trying_all(n, m, v):
         if sum(given) == worth:
             found.append([without[bidder] - (worth - given[bidder]) for bidder in range(n)])
     return found
+
+
+def all_havings(n, m):
+    """Each having as the list of what the bidders have: a thing, or None for nothing."""
+    for having in itertools.product([None] + list(range(m)), repeat=n):
+        things = [thing for thing in having if thing is not None]
+        if len(things) == len(set(things)):
+            yield list(having)
+
+
+def all_is_well(m, v, priced, having):
+    """Whether it is, by the document's own words."""
+    for bidder, has in enumerate(having):
+        left_over = [v[bidder * m + thing] - priced[thing] for thing in range(m)]
+        own = 0 if has is None else left_over[has]
+        if own < 0 or own < max(left_over):
+            return False
+    return all(priced[thing] == 0 for thing in range(m) if thing not in having)
+
+
+def well_by_trying_all(n, m, v):
+    """All prices at which all is well for some having, with all such havings."""
+    havings = list(all_havings(n, m))
+    found = []
+    # Nobody has a thing that's priced above what anybody gives, so no price is higher.
+    for priced in itertools.product(range(max(v) + 1), repeat=m):
+        well = [having for having in havings if all_is_well(m, v, priced, having)]
+        if well:
+            found.append((list(priced), well))
+    return found
+
+
+def least_by_trying_all(n, m, v):
+    """The least prices, with all havings for which all is well at them."""
+    found = well_by_trying_all(n, m, v)
+    least = [(priced, well) for priced, well in found
+             if all(priced[thing] <= other[thing] for other, ignored in found for thing in range(m))]
+    if len(least) != 1:
+        raise AssertionError("no least prices, or several", n, m, v)
+    return least[0]
+
+
+def sets_from_things(n, m, v):
+    """For best and pay, what bidders give for each set who want one thing of it at the most."""
+    bids = []
+    for bidder in range(n):
+        for held in range(2 ** m):
+            bids.append(max([v[bidder * m + thing] for thing in range(m) if held >> thing & 1], default=0))
+    return bids
 
 
 def with_empty_sets(n, m, values):
