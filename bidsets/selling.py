@@ -2,7 +2,7 @@
 
 MOST_BIDDERS = 8
 MOST_THINGS = 6
-# Where everyone wants one thing alone, there may be as many bidders and as many things.
+# Where everyone wants one thing alone, bidders and things have the same bound.
 MOST_ALONE = 16
 
 
@@ -109,7 +109,8 @@ def least_prices(n, m, v):
     """The least prices, where nothing is refused."""
     # With a spare thing for each bidder, for which everyone gives 0, having nothing is having
     # a spare one; so everybody has a thing, and none that they'd rather not have.
-    bids = [v[bidder * m:bidder * m + m] + [0 for spare in range(n)] for bidder in range(n)]
+    spares = [0 for spare in range(n)]
+    bids = [v[bidder * m:bidder * m + m] + spares for bidder in range(n)]
     holders = best_holders(bids, m + n)
     # Prices at which all is well for some having are so for each best having: any will do.
     # No price is below 0, and holders who'd gain by another thing put up its price, no further.
@@ -143,7 +144,7 @@ def with_newcomer(bids, holders, newcomer):
 def best_unheld(holders, gains):
     """The thing that's gained most by, of those that nobody holds."""
     unheld = [thing for thing in range(len(holders)) if holders[thing] is None]
-    return max(unheld, key=lambda thing: gains[thing])
+    return max(unheld, key=lambda one: gains[one])
 
 
 def best_chains(bids, holders, starts):
